@@ -99,6 +99,29 @@ func randomTree(r *rand.Rand, splits int, feats int) []impl.Node {
 	return t
 }
 
+// randomEns has 0..MaxTrees trees.
+func randomEns(r *rand.Rand, feats int) impl.Ens {
+	e := impl.Ens{Feats: int64(feats), Bias: r.Int63n(2*impl.MaxValue+1) - impl.MaxValue}
+	for range r.Intn(impl.MaxTrees + 1) {
+		e.Trees = append(e.Trees, randomTree(r, r.Intn(8), feats))
+	}
+	return e
+}
+
+func sameEns(a, b impl.Ens) bool {
+	return a.Feats == b.Feats && a.Bias == b.Bias && slices.EqualFunc(a.Trees, b.Trees, slices.Equal[[]impl.Node])
+}
+
+// copyEns returns an ensemble that shares no memory with e.
+func copyEns(e impl.Ens) impl.Ens {
+	trees := make([][]impl.Node, len(e.Trees))
+	for i, x := range e.Trees {
+		trees[i] = slices.Clone(x)
+	}
+	e.Trees = trees
+	return e
+}
+
 // mutated changes a text in a few places, with bytes of the given alphabet.
 func mutated(r *rand.Rand, s string, alphabet string) string {
 	for range 1 + r.Intn(2) {
