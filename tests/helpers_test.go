@@ -33,6 +33,38 @@ func (g guarded[T]) check(t *testing.T, list []T, filler T) {
 	}
 }
 
+// guardLists are lists with spare capacity behind each of them and behind the last one.
+func guardLists[T comparable](lists [][]T, filler T) (guardeds [][]T, check func(t *testing.T)) {
+	var before [][]T
+	var inner []guarded[T]
+	outer := make([][]T, 0, len(lists)+3)
+	for _, list := range lists {
+		g := guard(list, filler)
+		before, inner, outer = append(before, slices.Clone(list)), append(inner, g), append(outer, g.list)
+	}
+	return outer, func(t *testing.T) {
+		t.Helper()
+		if !slices.EqualFunc(outer, before, slices.Equal[[]T]) {
+			t.Errorf("the argument %v was modified: %v", before, outer)
+		}
+		for i, g := range inner {
+			g.check(t, before[i], filler)
+		}
+		for _, behind := range outer[len(outer):cap(outer)] {
+			if behind != nil {
+				t.Errorf("the memory behind the lists of %v was modified", before)
+			}
+		}
+	}
+}
+
+// spoilList writes to all memory of a list, also to what is behind it.
+func spoilList[T any](list []T, filler T) {
+	for i := range list[:cap(list)] {
+		list[:cap(list)][i] = filler
+	}
+}
+
 // randomDoc prefers small numbers, limits and Missing.
 func randomDoc(r *rand.Rand, size int) []int64 {
 	d := make([]int64, size)

@@ -36,6 +36,24 @@ func badDocs() [][]int64 {
 	}
 }
 
+// badDocsOf are not documents with that many numbers.
+func badDocsOf(size int) [][]int64 {
+	list := badDocs()
+	for other := range impl.MaxFeats + 2 {
+		if other != size {
+			list = append(list, make([]int64, other))
+		}
+	}
+	for at := range size {
+		for _, x := range []int64{impl.MaxFeat + 1, -impl.MaxFeat - 1, impl.Missing - 1, impl.Missing + 1, minInt, maxInt} {
+			d := make([]int64, size)
+			d[at] = x
+			list = append(list, d)
+		}
+	}
+	return slices.DeleteFunc(list, func(d []int64) bool { return len(d) == size && impl.DocOk(d) })
+}
+
 func TestDocLimits(t *testing.T) {
 	if impl.MaxFeats != 6 || impl.MaxFeat != 1000000 || impl.Missing != 9999999 {
 		t.Error("a constant is different")

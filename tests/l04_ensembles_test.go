@@ -427,34 +427,8 @@ func plainNode(word string) impl.Node {
 
 // guardEns is an ensemble with spare capacity behind each of its lists.
 func guardEns(e impl.Ens) (guarded impl.Ens, check func(t *testing.T)) {
-	filler := impl.Node{Value: 77}
-	wholes := make([][]impl.Node, 0, len(e.Trees)+1)
-	for _, x := range e.Trees {
-		wholes = append(wholes, guard(x, filler).whole)
-	}
-	guarded = impl.Ens{Feats: e.Feats, Bias: e.Bias}
-	trees := make([][]impl.Node, 0, len(e.Trees)+3)
-	for i, x := range e.Trees {
-		trees = append(trees, wholes[i][:len(x)])
-	}
-	guarded.Trees = trees
-	before := copyEns(e)
-	return guarded, func(t *testing.T) {
-		t.Helper()
-		if !sameEns(guarded, before) {
-			t.Errorf("the argument %v was modified: %v", before, guarded)
-		}
-		for i, x := range before.Trees {
-			if !slices.Equal(wholes[i], append(slices.Clone(x), filler, filler, filler)) {
-				t.Errorf("the memory behind tree %d of %v was modified", i, before)
-			}
-		}
-		for _, behind := range trees[len(trees):cap(trees)] {
-			if behind != nil {
-				t.Errorf("the memory behind the trees of %v was modified", before)
-			}
-		}
-	}
+	e.Trees, check = guardLists(e.Trees, impl.Node{Value: 77})
+	return e, check
 }
 
 // spoil writes to all memory of an ensemble.

@@ -501,7 +501,7 @@ func TestFlatScoreRejectsDocs(t *testing.T) {
 // spoilFlat writes to all memory of a Flat.
 func spoilFlat(f impl.Flat) {
 	for _, list := range allLists(&f) {
-		spoilList(*list)
+		spoilList(*list, 99)
 	}
 }
 
@@ -545,7 +545,7 @@ func TestFlatResultsAreNew(t *testing.T) {
 		want := plainFlat(ens(t, s))
 		for name := range allLists(&want) {
 			f, other := flat(t, s), copyFlat(want)
-			spoilList(*allLists(&f)[name])
+			spoilList(*allLists(&f)[name], 99)
 			*allLists(&f)[name], *allLists(&other)[name] = nil, nil
 			if !sameFlat(f, other) || !sameFlat(flat(t, s), want) {
 				t.Errorf("Flatten(%q): %s shares memory", s, name)
@@ -565,12 +565,5 @@ func TestFlatResultsAreNew(t *testing.T) {
 				t.Errorf("Unflatten of %q: tree %d shares memory", s, i)
 			}
 		}
-	}
-}
-
-// spoilList writes to all memory of a list, also to what is behind it.
-func spoilList(list []int64) {
-	for i := range list[:cap(list)] {
-		list[:cap(list)][i] = 99
 	}
 }

@@ -294,11 +294,7 @@ func TestPlanOfRejects(t *testing.T) {
 
 func TestPlanOkRejectsEns(t *testing.T) {
 	for name, e := range badEns() {
-		var order []int64
-		for i := range int64(min(len(e.Trees), 20)) {
-			order = append(order, i)
-		}
-		for _, p := range []impl.Plan{{}, {Mins: []int64{0}, Maxs: []int64{0}}, plainPlanOfBad(e, order)} {
+		for _, p := range plansForBad(e) {
 			if impl.PlanOk(e, p) {
 				t.Errorf("%s: PlanOk(%v) is true", name, p)
 			}
@@ -312,14 +308,19 @@ func TestPlanOkRejectsEns(t *testing.T) {
 	}
 }
 
-// plainPlanOfBad has the sums of the trees that are trees.
-func plainPlanOfBad(e impl.Ens, order []int64) impl.Plan {
-	p := impl.Plan{Order: order, Ends: []int64{int64(len(order))}, Mins: []int64{0}, Maxs: []int64{0}}
-	for _, at := range slices.Backward(order) {
+// plansForBad are as near to valid plans as an ensemble that is not valid
+// allows: the last one has the sums of the trees that are trees.
+func plansForBad(e impl.Ens) []impl.Plan {
+	p := impl.Plan{Mins: []int64{0}, Maxs: []int64{0}}
+	for i := range int64(min(len(e.Trees), 20)) {
+		p.Order = append(p.Order, i)
+	}
+	p.Ends = []int64{int64(len(p.Order))}
+	for _, at := range slices.Backward(p.Order) {
 		lo, hi := impl.RangeOf(e.Trees[at])
 		p.Mins, p.Maxs = slices.Insert(p.Mins, 0, p.Mins[0]+lo), slices.Insert(p.Maxs, 0, p.Maxs[0]+hi)
 	}
-	return p
+	return []impl.Plan{{}, {Mins: []int64{0}, Maxs: []int64{0}}, p}
 }
 
 // badPlans are not valid for planEns.
@@ -413,6 +414,19 @@ func TestPlanOkOfEqualTrees(t *testing.T) {
 	}
 }
 
+// randomPlan has any order and any ends.
+func randomPlan(r *rand.Rand, e impl.Ens) impl.Plan {
+	var order, ends []int64
+	n := len(e.Trees)
+	for i, at := range r.Perm(n) {
+		order = append(order, int64(at))
+		if i+1 == n || r.Intn(2) == 0 {
+			ends = append(ends, int64(i+1))
+		}
+	}
+	return plainPlan(e, order, ends)
+}
+
 // changePlan changes a few numbers or a length.
 func changePlan(r *rand.Rand, p *impl.Plan) {
 	list := planLists(p)[[]string{"Order", "Ends", "Mins", "Maxs"}[r.Intn(4)]]
@@ -434,17 +448,8 @@ func TestPlanOkOfOtherPlans(t *testing.T) {
 	r := rand.New(rand.NewSource(42))
 	seen := map[bool]int{}
 	for range 40000 {
-		n := r.Intn(7)
-		e := planningEns(r, n)
-		order := make([]int64, n)
-		var ends []int64
-		for i, at := range r.Perm(n) {
-			order[i] = int64(at)
-			if i+1 == n || r.Intn(2) == 0 {
-				ends = append(ends, int64(i+1))
-			}
-		}
-		p := plainPlan(e, order, ends)
+		e := planningEns(r, r.Intn(7))
+		p := randomPlan(r, e)
 		if !impl.PlanOk(e, p) {
 			t.Fatalf("PlanOk(%v, %v) is false", e, p)
 		}
@@ -478,6 +483,26 @@ func TestPlanOfAnotherEns(t *testing.T) {
 	}
 }
 
+// guardPlan is a plan with spare capacity behind each of its lists.
+func guardPlan(p impl.Plan) (guarded impl.Plan, check func(t *testing.T)) {
+	before := copyPlan(p)
+	var checks []func(t *testing.T)
+	for name, list := range planLists(&p) {
+		g := guard(*list, 77)
+		*list = g.list
+		checks = append(checks, func(t *testing.T) {
+			t.Helper()
+			g.check(t, *planLists(&before)[name], 77)
+		})
+	}
+	return p, func(t *testing.T) {
+		t.Helper()
+		for _, c := range checks {
+			c(t)
+		}
+	}
+}
+
 func TestPlanArgumentsStay(t *testing.T) {
 	list := badEns()
 	for _, s := range append(flatTexts(), planEns) {
@@ -485,23 +510,17 @@ func TestPlanArgumentsStay(t *testing.T) {
 	}
 	plans := badPlans(t)
 	plans["good"] = plan(t, ens(t, planEns), 2, 3)
-	whole := map[string]map[string]guarded[int64]{}
-	before := map[string]impl.Plan{}
+	checks := map[string]func(*testing.T){}
 	for name, p := range plans {
-		before[name], whole[name] = copyPlan(p), map[string]guarded[int64]{}
-		for of, l := range planLists(&p) {
-			whole[name][of] = guard(*l, 77)
-			*l = whole[name][of].list
-		}
-		plans[name] = p
+		plans[name], checks[name] = guardPlan(p)
 	}
 	for name, e := range list {
 		g, check := guardEns(e)
 		for policy := int64(0); policy <= 4; policy++ {
 			p, _ := impl.PlanOf(g, policy, 2)
-			spoilList(impl.OrderOf(g, policy))
+			spoilList(impl.OrderOf(g, policy), 99)
 			for _, l := range planLists(&p) {
-				spoilList(*l)
+				spoilList(*l, 99)
 			}
 		}
 		for _, p := range plans {
@@ -509,10 +528,8 @@ func TestPlanArgumentsStay(t *testing.T) {
 		}
 		t.Run(name, check)
 	}
-	for name, p := range before {
-		for of, l := range planLists(&p) {
-			whole[name][of].check(t, *l, 77)
-		}
+	for name, check := range checks {
+		t.Run(name, check)
 	}
 }
 
@@ -523,13 +540,13 @@ func TestPlanResultsAreNew(t *testing.T) {
 			want := plan(t, e, policy, 2)
 			for name := range planLists(&want) {
 				p, other := plan(t, e, policy, 2), copyPlan(want)
-				spoilList(*planLists(&p)[name])
+				spoilList(*planLists(&p)[name], 99)
 				*planLists(&p)[name], *planLists(&other)[name] = nil, nil
 				if !samePlan(p, other) || !samePlan(plan(t, e, policy, 2), want) {
 					t.Errorf("PlanOf(%q, %d): %s shares memory", s, policy, name)
 				}
 			}
-			spoilList(impl.OrderOf(e, policy))
+			spoilList(impl.OrderOf(e, policy), 99)
 			if !slices.Equal(impl.OrderOf(e, policy), want.Order) {
 				t.Errorf("OrderOf(%q, %d) shares memory", s, policy)
 			}
